@@ -89,7 +89,14 @@ func mapByForm(z []impl.Item, cells []impl.Cell) ([]impl.Item, bool) {
 }
 
 func joinByForm(a []impl.Item, b []impl.Item, x int, y int) ([]impl.Item, bool) {
-	if !okByForm(a) || !okByForm(b) || x < 0 || x > 5 || y < 0 || y > 5 {
+	pairs, good := pairsByForm(a, b, x, y)
+	sum, ok := sumByForm(pairs)
+	return sum, good && ok && okByForm(a) && okByForm(b)
+}
+
+// pairsByForm is what is joined, however much it is, each two rows by themselves; false, if x or y is no place.
+func pairsByForm(a []impl.Item, b []impl.Item, x int, y int) ([]impl.Item, bool) {
+	if x < 0 || x > 5 || y < 0 || y > 5 {
 		return nil, false
 	}
 	var pairs []impl.Item
@@ -103,7 +110,7 @@ func joinByForm(a []impl.Item, b []impl.Item, x int, y int) ([]impl.Item, bool) 
 			}
 		}
 	}
-	return sumByForm(pairs)
+	return pairs, true
 }
 
 func groupByForm(z []impl.Item, keys []int, agg int, at int) ([]impl.Item, bool) {
