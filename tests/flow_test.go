@@ -6,6 +6,7 @@ import (
 	"math/rand"
 	"reflect"
 	"slices"
+	"strconv"
 	"strings"
 	"testing"
 
@@ -1169,22 +1170,31 @@ func spansOf(where string, v reflect.Value) []span {
 
 // shownWithRoom is all that a value has, with what is behind the ends of its lists.
 func shownWithRoom(v reflect.Value) string {
+	var text strings.Builder
+	showWithRoom(&text, v)
+	return text.String()
+}
+
+func showWithRoom(text *strings.Builder, v reflect.Value) {
 	switch v.Kind() {
 	case reflect.Struct:
-		text := "{"
+		text.WriteString("{")
 		for i := range v.NumField() {
-			text += shownWithRoom(v.Field(i)) + ";"
+			showWithRoom(text, v.Field(i))
 		}
-		return text + "}"
+		text.WriteString("}")
 	case reflect.Slice:
-		text := fmt.Sprint(v.Len(), "[")
+		text.WriteString(strconv.Itoa(v.Len()) + "[")
 		whole := v.Slice(0, v.Cap())
 		for i := range whole.Len() {
-			text += shownWithRoom(whole.Index(i)) + ";"
+			showWithRoom(text, whole.Index(i))
 		}
-		return text + "]"
+		text.WriteString("]")
+	case reflect.Int:
+		text.WriteString(strconv.FormatInt(v.Int(), 10) + ";")
+	default:
+		text.WriteString(fmt.Sprint(v) + ";")
 	}
-	return fmt.Sprint(v)
 }
 
 // wantApart asks that no two lists share memory.
@@ -1241,18 +1251,19 @@ func flowCalls() map[string]func(in flowGiven) flowAnswer {
 	return calls
 }
 
-// wantNewMemory asks of each call that it leaves what it is given as it is, also behind its ends, and that its answer shares no memory with that, nor with itself.
-func wantNewMemory(t *testing.T, what string, in flowGiven) {
+// wantCallsNewMemory asks of each call that it leaves what it is given as it is, also behind its ends, and that its answer shares no memory with that, nor with itself.
+func wantCallsNewMemory[G any, A any](t *testing.T, what string, in G, calls map[string]func(in G) A) {
 	t.Helper()
 	was := shownWithRoom(reflect.ValueOf(in))
-	for name, call := range flowCalls() {
+	givens := spansOf("what is given", reflect.ValueOf(in))
+	for name, call := range calls {
 		answer := call(in)
 		if got := shownWithRoom(reflect.ValueOf(in)); got != was {
 			t.Fatalf("%s of %s changes what it is given: %s; it was %s", name, what, got, was)
 		}
 		spans := spansOf("the answer", reflect.ValueOf(answer))
 		wantApart(t, name+" of "+what, spans)
-		for _, given := range spansOf("what is given", reflect.ValueOf(in)) {
+		for _, given := range givens {
 			for _, answered := range spans {
 				if given.from < answered.to && answered.from < given.to {
 					t.Fatalf("%s of %s: %s and %s share memory", name, what, given.where, answered.where)
@@ -1260,6 +1271,11 @@ func wantNewMemory(t *testing.T, what string, in flowGiven) {
 			}
 		}
 	}
+}
+
+func wantNewMemory(t *testing.T, what string, in flowGiven) {
+	t.Helper()
+	wantCallsNewMemory(t, what, in, flowCalls())
 }
 
 func roomyLists(lists [][]impl.Item) [][]impl.Item {
